@@ -1,0 +1,1 @@
+"""Answers kept up to date: see keptanswers.desk."""
